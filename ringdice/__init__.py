@@ -1,0 +1,1 @@
+"""Dice that may be numbered as one likes: ways to sums, and who wins against whom."""
