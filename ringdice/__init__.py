@@ -1,1 +1,1 @@
-"""Dice that may be numbered as one likes: ways to sums, and who wins against whom."""
+"""Dice that may be numbered as one likes: ways to sums, who beats whom, rounds, and usual pairs."""

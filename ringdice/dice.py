@@ -37,9 +37,7 @@ def die(table, i, faces):
 
 
 def sums(table, most, numbers):
-    if len(numbers) > ROOM:
-        return [OUTSIDE]
-    refused = refusal(table, numbers)
+    refused = refusal_of_row(table, numbers)
     if refused != DONE:
         return [refused]
     ways = ways_to_sums(table, numbers)
@@ -65,6 +63,32 @@ def wins(table, i, j):
     if refused != DONE:
         return refused
     return winning_twos(table[i], table[j])
+
+
+def ring(table, numbers):
+    refused = refusal_of_row(table, numbers)
+    if refused != DONE:
+        return refused
+    if len(numbers) < 2:
+        return 0
+    for place, i in enumerate(numbers):
+        j = numbers[(place + 1) % len(numbers)]
+        if not beats(table[i], table[j]):
+            return 0
+    return 1
+
+
+def ahead(table, i, j):
+    refused = refusal(table, [i, j])
+    if refused != DONE:
+        return refused
+    return 1 if never_behind(table[i], table[j]) else 0
+
+
+def refusal_of_row(table, numbers):
+    if len(numbers) > ROOM:
+        return OUTSIDE
+    return refusal(table, numbers)
 
 
 def refusal(table, numbers):
@@ -106,3 +130,21 @@ def winning_twos(own, other):
             if face > against:
                 many = many + 1
     return many
+
+
+def beats(own, other):
+    return winning_twos(own, other) > winning_twos(other, own)
+
+
+def never_behind(own, other):
+    # Every face shows more than a t below 0, and none more than a t from MOST_SHOWN on:
+    # at all such t the parts are equal.
+    for t in range(MOST_SHOWN):
+        # The parts are multiplied out, as the dice may differ in how many faces they have.
+        if faces_above(own, t) * len(other) < faces_above(other, t) * len(own):
+            return False
+    return True
+
+
+def faces_above(faces, t):
+    return len([face for face in faces if face > t])

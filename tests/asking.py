@@ -25,6 +25,22 @@ def wins(i, j):
     return [4, i, j]
 
 
+def ring(dice):
+    return [5, len(dice)] + list(dice)
+
+
+def ahead(i, j):
+    return [6, i, j]
+
+
+def pairs(n):
+    return [7, n]
+
+
+def pair(n, k, most):
+    return [8, n, k, most]
+
+
 def line(calls):
     return [number for call in calls for number in call]
 
